@@ -1,6 +1,7 @@
 package tests
 
 import (
+	"bytes"
 	"fmt"
 	"math"
 	"reflect"
@@ -21,16 +22,16 @@ type input struct {
 }
 
 // call is a function of the package; the last result is a code if coded is true.
-type call struct {
+type call[T fmt.Stringer] struct {
 	name  string
 	coded bool
-	run   func(x input) []any
+	run   func(x T) []any
 }
 
 func results(list ...any) []any { return list }
 
-func wheelCalls() []call {
-	return []call{
+func wheelCalls() []call[input] {
+	return []call[input]{
 		{"CodeName", false, func(x input) []any { return results(impl.CodeName(x.m)) }},
 		{"ValidStack", false, func(x input) []any { return results(impl.ValidStack(x.s)) }},
 		{"SameStack", false, func(x input) []any { return results(impl.SameStack(x.s, x.other)) }},
@@ -106,10 +107,10 @@ func TestPromise1Wheels(t *testing.T) {
 		for _, c := range wheelCalls() {
 			first := c.run(x)
 			if second := c.run(x); !reflect.DeepEqual(first, second) {
-				t.Fatalf("%s of %s: first %v, then %v", c.name, short(x), first, second)
+				t.Fatalf("%s of %s: first %v, then %v", c.name, x, first, second)
 			}
-			if !slices.Equal(all, before) || !slices.Equal(others, othersBefore) {
-				t.Fatalf("%s of %s modifies its argument", c.name, short(x))
+			if !bytes.Equal(all, before) || !bytes.Equal(others, othersBefore) {
+				t.Fatalf("%s of %s modifies its argument", c.name, x)
 			}
 			checkZeros(t, c, x, first)
 		}
@@ -117,7 +118,7 @@ func TestPromise1Wheels(t *testing.T) {
 }
 
 // checkZeros checks that a code comes with zero values alone.
-func checkZeros(t *testing.T, c call, x input, list []any) {
+func checkZeros[T fmt.Stringer](t *testing.T, c call[T], x T, list []any) {
 	t.Helper()
 	last := len(list) - 1
 	if !c.coded || list[last] == int64(impl.OK) {
@@ -126,17 +127,20 @@ func checkZeros(t *testing.T, c call, x input, list []any) {
 	for _, r := range list[:last] {
 		v := reflect.ValueOf(r)
 		if v.Kind() == reflect.Slice && v.Len() > 0 || v.Kind() != reflect.Slice && !v.IsZero() {
-			t.Fatalf("%s of %s: %v together with the code %v", c.name, short(x), r, list[last])
+			t.Fatalf("%s of %s: %v together with the code %v", c.name, x, r, list[last])
 		}
 	}
 }
 
-func short(x input) string {
-	text := x.text
+func (x input) String() string {
+	return fmt.Sprint(x.s, x.other, x.d, x.e, x.m, x.n, x.wheel, x.g, short(x.text))
+}
+
+func short(text string) string {
 	if len(text) > 20 {
-		text = text[:20] + ".."
+		return text[:20] + ".."
 	}
-	return fmt.Sprint(x.s, x.other, x.d, x.e, x.m, x.n, x.wheel, x.g, text)
+	return text
 }
 
 // TestPromise1InvalidStacks checks that each function with a stack refuses one
