@@ -132,6 +132,23 @@ func checkZeros[T fmt.Stringer](t *testing.T, c call[T], x T, list []any) {
 	}
 }
 
+// checkRefused checks that some functions return ErrInvalid, or a zero value alone.
+func checkRefused[T fmt.Stringer](t *testing.T, calls []call[T], x T, names ...string) {
+	t.Helper()
+	for _, c := range calls {
+		if !slices.Contains(names, c.name) {
+			continue
+		}
+		list := c.run(x)
+		if c.coded {
+			mustCode(t, fmt.Sprint(c.name, " of ", x), list[len(list)-1].(int64), impl.ErrInvalid)
+			checkZeros(t, c, x, list)
+		} else if !reflect.ValueOf(list[0]).IsZero() {
+			t.Errorf("%s of %s: %v", c.name, x, list[0])
+		}
+	}
+}
+
 func (x input) String() string {
 	return fmt.Sprint(x.s, x.other, x.d, x.e, x.m, x.n, x.wheel, x.g, short(x.text))
 }
