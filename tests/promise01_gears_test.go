@@ -219,6 +219,12 @@ func TestPromise1Searches(t *testing.T) {
 			t.Errorf("found %q, and %q", first, text)
 		}
 	}
+	checkJoined(t, before)
+}
+
+// checkJoined checks that there are no more goroutines than before.
+func checkJoined(t *testing.T, before int) {
+	t.Helper()
 	for range 1000 { // what has sent its last may still be on its way out
 		if runtime.NumGoroutine() <= before {
 			return
