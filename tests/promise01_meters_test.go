@@ -3,7 +3,6 @@ package tests
 import (
 	"fmt"
 	"math"
-	"reflect"
 	"runtime"
 	"slices"
 	"strings"
@@ -111,30 +110,7 @@ func guardMeters(x *meterInput) []any {
 // TestPromise1Meters checks that every function of chapter 6 returns, twice the same,
 // modifies no argument, and has zero values together with a code.
 func TestPromise1Meters(t *testing.T) {
-	codes := map[string]map[any]bool{}
-	for _, x := range meterInputs() {
-		all := guardMeters(&x)
-		before := fmt.Sprint(all)
-		for _, c := range meterCalls() {
-			first := c.run(x)
-			if second := c.run(x); !reflect.DeepEqual(first, second) {
-				t.Fatalf("%s of %s: first %v, then %v", c.name, x, first, second)
-			}
-			checkZeros(t, c, x, first)
-			if codes[c.name] == nil {
-				codes[c.name] = map[any]bool{}
-			}
-			codes[c.name][first[len(first)-1]] = true
-		}
-		if after := fmt.Sprint(all); after != before {
-			t.Fatalf("%s: an argument is modified: %s, before %s", x, after, before)
-		}
-	}
-	for name, list := range codes {
-		if len(list) < 2 {
-			t.Errorf("%s has only returned %v", name, list)
-		}
-	}
+	checkCalls(t, meterCalls(), meterInputs(), guardMeters)
 }
 
 // TestPromise1BadMeters checks that each function of chapter 6 refuses what is not

@@ -3,7 +3,6 @@ package tests
 import (
 	"fmt"
 	"math"
-	"reflect"
 	"slices"
 	"strings"
 	"testing"
@@ -103,30 +102,7 @@ func guardPhotos(x *photoInput) []any {
 // TestPromise1Photos checks that every function of chapter 5 returns, twice the same,
 // modifies no argument, and has zero values together with a code.
 func TestPromise1Photos(t *testing.T) {
-	codes := map[string]map[any]bool{}
-	for _, x := range photoInputs() {
-		all := guardPhotos(&x)
-		before := fmt.Sprint(all)
-		for _, c := range photoCalls() {
-			first := c.run(x)
-			if second := c.run(x); !reflect.DeepEqual(first, second) {
-				t.Fatalf("%s of %s: first %v, then %v", c.name, x, first, second)
-			}
-			if fmt.Sprint(all) != before {
-				t.Fatalf("%s of %s modifies an argument: %v, before %s", c.name, x, all, before)
-			}
-			checkZeros(t, c, x, first)
-			if codes[c.name] == nil {
-				codes[c.name] = map[any]bool{}
-			}
-			codes[c.name][first[len(first)-1]] = true
-		}
-	}
-	for name, list := range codes {
-		if len(list) < 2 {
-			t.Errorf("%s has only returned %v", name, list)
-		}
-	}
+	checkCalls(t, photoCalls(), photoInputs(), guardPhotos)
 }
 
 // filmNames are the functions with photos in order.

@@ -76,6 +76,37 @@ func logInputs() []logInput {
 	return list
 }
 
+// checkCalls checks that functions return for some inputs, twice the same, modify no
+// argument, and have zero values together with a code; and that each one is asked for
+// more than it always tells.
+func checkCalls[T fmt.Stringer](t *testing.T, calls []call[T], inputs []T, guard func(x *T) []any) {
+	t.Helper()
+	told := map[string]map[any]bool{}
+	for _, x := range inputs {
+		all := guard(&x)
+		before := fmt.Sprint(all)
+		for _, c := range calls {
+			first := c.run(x)
+			if second := c.run(x); !reflect.DeepEqual(first, second) {
+				t.Fatalf("%s of %s: first %v, then %v", c.name, x, first, second)
+			}
+			checkZeros(t, c, x, first)
+			if told[c.name] == nil {
+				told[c.name] = map[any]bool{}
+			}
+			told[c.name][first[len(first)-1]] = true
+		}
+		if after := fmt.Sprint(all); after != before {
+			t.Fatalf("%s: an argument is modified: %s, before %s", x, after, before)
+		}
+	}
+	for name, list := range told {
+		if len(list) < 2 {
+			t.Errorf("%s has only returned %v", name, list)
+		}
+	}
+}
+
 // inLonger puts a list into a longer one, and returns that, too.
 func inLonger[S ~[]T, T any](list S, other T) (S, any) {
 	long := append(append(S{other}, list...), other, other, other)
@@ -99,30 +130,7 @@ func guardLogs(x *logInput) []any {
 // TestPromise1Logs checks that every function of chapter 4 returns, twice the same,
 // modifies no argument, and has zero values together with a code.
 func TestPromise1Logs(t *testing.T) {
-	codes := map[string]map[any]bool{}
-	for _, x := range logInputs() {
-		all := guardLogs(&x)
-		before := fmt.Sprint(all)
-		for _, c := range logCalls() {
-			first := c.run(x)
-			if second := c.run(x); !reflect.DeepEqual(first, second) {
-				t.Fatalf("%s of %s: first %v, then %v", c.name, x, first, second)
-			}
-			if fmt.Sprint(all) != before {
-				t.Fatalf("%s of %s modifies an argument: %v, before %s", c.name, x, all, before)
-			}
-			checkZeros(t, c, x, first)
-			if codes[c.name] == nil {
-				codes[c.name] = map[any]bool{}
-			}
-			codes[c.name][first[len(first)-1]] = true
-		}
-	}
-	for name, list := range codes {
-		if len(list) < 2 {
-			t.Errorf("%s has only returned %v", name, list)
-		}
-	}
+	checkCalls(t, logCalls(), logInputs(), guardLogs)
 }
 
 // TestPromise1BadLogs checks that each function of chapter 4 refuses what is not
